@@ -5,6 +5,7 @@ import unittest
 
 from everyrow.flow import flow, statement_at
 from everyrow.reader import read
+from helper import lists_in
 
 ZERO = ("number", 0)
 ONE = ("number", 1)
@@ -70,14 +71,6 @@ def come_to(letters, place, partner):
     while place < len(letters) and letters[place] in "le":
         place = partner[place]
     return place + 1 if place < len(letters) else 0
-
-
-def lists_in(value):
-    found = [value] if isinstance(value, list) else []
-    if isinstance(value, (list, tuple)):
-        for part in value:
-            found.extend(lists_in(part))
-    return found
 
 
 def statements_in(value):

@@ -8,6 +8,7 @@ from everyrow.errors import (
     Full, NoBox, NoMeasure, NoPlace, NoRow, Open, TooDeep, TooLong, Twice,
 )
 from everyrow.reader import read
+from helper import lists_in
 
 ZERO = ("number", 0)
 ONE = ("number", 1)
@@ -17,14 +18,6 @@ B = ("box", "b")
 
 def text_of(*rows):
     return "\n".join(rows)
-
-
-def lists_in(value):
-    found = [value] if isinstance(value, list) else []
-    if isinstance(value, (list, tuple)):
-        for part in value:
-            found.extend(lists_in(part))
-    return found
 
 
 class Reading(unittest.TestCase):
