@@ -66,9 +66,12 @@ def statements_in(body):
 
 def copied_statement(statement):
     # Bodies are lists, and a list that is told must not be one of the program that was handed in.
-    bodies = [copied_body(inner) for inner in bodies_in(statement)]
-    return statement[:len(statement) - len(bodies)] + tuple(bodies)
+    return with_bodies(statement, [copied_body(inner) for inner in bodies_in(statement)])
 
 
 def copied_body(body):
     return [copied_statement(statement) for statement in body]
+
+
+def with_bodies(statement, bodies):
+    return statement[:len(statement) - len(bodies)] + tuple(bodies)

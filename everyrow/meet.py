@@ -3,7 +3,7 @@
 from everyrow.chart import Chart
 from everyrow.ranges import least_ranges, ranges_show
 from everyrow.runs import all_led_to
-from everyrow.targets import is_met_at, shortest, standings
+from everyrow.targets import shortest, standings, targets_at
 
 
 def standings_show(program, target, paper):
@@ -12,7 +12,7 @@ def standings_show(program, target, paper):
     if chart.first not in listed:
         return False
     for standing in listed:
-        if is_met_at(chart, standing, target):
+        if target in targets_at(chart, standing):
             return False
         if not all([led in listed for led in all_led_to(chart, standing)]):
             return False

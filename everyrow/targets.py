@@ -5,7 +5,7 @@ from everyrow.errors import TooMany
 from everyrow.flow import flow
 from everyrow.runs import Walk, all_led_to
 
-MOST_STANDINGS = 2000
+MOST_PLACES = 2000
 
 
 def targets(program):
@@ -23,18 +23,7 @@ def targets(program):
 
 
 def meets(program, figures, target):
-    walk = Walk(Chart(program), figures)
-    # Between two asks nothing but the standing decides how a run goes on: come to twice, it goes round for ever.
-    seen = {}
-    while walk.end is None and walk.standing not in seen:
-        if is_met_at(walk.chart, walk.standing, target):
-            return True
-        if walk.is_at_ask():
-            seen = {}
-        else:
-            seen[walk.standing] = True
-        walk.go_on()
-    return is_met_at(walk.chart, walk.standing, target)
+    return target in met_by(Chart(program), figures)
 
 
 def standings(program):
@@ -42,53 +31,76 @@ def standings(program):
 
 
 def shortest(program, target):
-    chart = Chart(program)
-    # All standings are gone through ahead of the look, so that too many of them are refused for each target alike.
-    found = first_inputs(chart)
-    for standing in found:
-        if is_met_at(chart, standing, target):
-            return list(found[standing])
+    found = shortest_inputs(Chart(program))
+    if target in found:
+        return list(found[target])
     return None
 
 
-def is_met_at(chart, standing, target):
+def targets_at(chart, standing):
     row = standing[0]
     word = word_at(chart, row)
-    if target[0] == "end":
-        return word == "end"
-    if target[1] != row:
-        return False
-    if target[0] == "side":
-        return word in ("if", "while") and holds(chart, standing) == target[2]
-    if target[0] == "must":
-        return word == "must" and not holds(chart, standing)
-    return True
+    if word == "end":
+        return [("end",)]
+    if word in ("if", "while"):
+        return [("row", row), ("side", row, holds(chart, standing))]
+    if word == "must" and not holds(chart, standing):
+        return [("row", row), ("must", row)]
+    return [("row", row)]
+
+
+def met_by(chart, figures):
+    walk = Walk(chart, figures)
+    met = {}
+    # Between two asks nothing but the standing decides how a run goes on: come to twice, it goes round for ever.
+    seen = {}
+    while True:
+        for target in targets_at(chart, walk.standing):
+            met[target] = True
+        if walk.end is not None or walk.standing in seen:
+            return met
+        if walk.is_at_ask():
+            seen = {}
+        else:
+            seen[walk.standing] = True
+        walk.go_on()
+
+
+def shortest_inputs(chart):
+    # All standings are gone through ahead of the look, so that too many of them are refused for each target alike.
+    met = {}
+    for standing, figures in first_inputs(chart).items():
+        for target in targets_at(chart, standing):
+            met.setdefault(target, figures)
+    return met
 
 
 def first_inputs(chart):
-    # The asks of one count of figures are gone on from in the order of their own first inputs, so each standing is
-    # found by the first of its shortest inputs, and the dict keeps the standings in their order.
+    return found_from(chart.first, lambda standing: all_led_to(chart, standing))
+
+
+def found_from(first, led_from):
+    # The asks of one count of figures are gone on from in the order of their own first inputs, so each place is found
+    # by the first of its shortest inputs, and the dict keeps the places in their order.
     found = {}
-    asking = gone_on(chart, chart.first, (), found)
+    asking = gone_on(first, led_from, (), found)
     while asking:
         behind = []
-        for standing in asking:
-            for figure, led in enumerate(all_led_to(chart, standing)):
-                behind.extend(gone_on(chart, led, found[standing] + (figure,), found))
+        for figures, led in asking:
+            for figure, place in enumerate(led):
+                behind.extend(gone_on(place, led_from, figures + (figure,), found))
         asking = behind
     return found
 
 
-def gone_on(chart, standing, figures, found):
-    # Behind a standing that was found already nothing is new, so only an ask that is new is gone on from.
-    while standing not in found:
-        if len(found) == MOST_STANDINGS:
-            raise TooMany("more standings than are gone through")
-        found[standing] = figures
-        if word_at(chart, standing[0]) == "ask":
-            return [standing]
-        led = all_led_to(chart, standing)
-        if not led:
-            return []
-        standing = led[0]
+def gone_on(place, led_from, figures, found):
+    # Behind a place that was found already nothing is new, so only an ask that is new is gone on from.
+    while place not in found:
+        if len(found) == MOST_PLACES:
+            raise TooMany("more places than are gone through")
+        found[place] = figures
+        led = led_from(place)
+        if len(led) != 1:
+            return [(figures, led)]
+        place = led[0]
     return []

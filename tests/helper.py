@@ -156,6 +156,34 @@ def targets_met(program, figures):
     return met
 
 
+def words_by_row(body):
+    told = {}
+    for statement in body:
+        told[statement[1]] = statement[0]
+        for part in statement:
+            if isinstance(part, list):
+                told.update(words_by_row(part))
+    return told
+
+
+def sights_again(program, figures, most=300):
+    """What is seen of a run, at most so many sights of it."""
+    words, told, unseen = words_by_row(program[1]), [], set()
+    for standing, taken, note in walked(program, figures):
+        if len(told) == most:
+            break
+        if standing in unseen:
+            told.append(("round",))
+            break
+        word = "end" if standing[0] == 0 else words[standing[0]]
+        if word in ("end", "ask") or note == "must":
+            told.append((word,))
+        elif word == "say":
+            told.append((word, note))
+        unseen = set() if word in ("ask", "say") else unseen | {standing}
+    return told
+
+
 # Programs made by chance, but the same ones at each time.
 
 class Maker:
@@ -210,3 +238,9 @@ class Maker:
 
 def made_programs(count, seed, **measures):
     return [Maker(seed * 100000 + k, **measures).program() for k in range(count)]
+
+
+def asking_first(program):
+    """The program with an ask for each of its boxes ahead; the rows of the boxes are free for these."""
+    boxes, body = program
+    return boxes, [("ask", k, box[0]) for k, box in enumerate(boxes, start=1)] + body
